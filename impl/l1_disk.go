@@ -4,6 +4,7 @@ import (
 	"cmp"
 	"errors"
 	"slices"
+	"strings"
 )
 
 const (
@@ -250,13 +251,16 @@ func bytesOf(files []File) int {
 
 func within(n, most int) bool { return n >= 0 && n <= most }
 
-func isFileName(name string) bool {
-	if len(name) < 1 || len(name) > MaxFile {
+func isFileName(name string) bool { return isPlain(name, MaxFile, "-.") }
+
+// isPlain tells whether a name has 1 to most bytes, each of them a small letter, a digit or one of the marks.
+func isPlain(name string, most int, marks string) bool {
+	if len(name) < 1 || len(name) > most {
 		return false
 	}
 	for i := range len(name) {
 		b := name[i]
-		if !(b >= 'a' && b <= 'z' || b >= '0' && b <= '9' || b == '-' || b == '.') {
+		if !(b >= 'a' && b <= 'z' || b >= '0' && b <= '9' || strings.IndexByte(marks, b) >= 0) {
 			return false
 		}
 	}
